@@ -79,14 +79,7 @@ func GcdNat(a, b []int) ([]int, int) {
 	if code := natCode(a, b); code != OK {
 		return nil, code
 	}
-	var quotient, first, second [MaxLimbs]int
-	x := first[:copy(first[:], a)]
-	y := second[:copy(second[:], b)]
-	for len(y) > 0 {
-		divideRest(quotient[:], x, y)
-		x, y = y, trimmed(x)
-	}
-	return fresh(x), OK
+	return commonLimbs(a, b), OK
 }
 
 func RootNat(a []int) ([]int, int) {
@@ -116,17 +109,7 @@ func NatText(a []int) (string, int) {
 	if code := natCode(a); code != OK {
 		return "", code
 	}
-	if len(a) == 0 {
-		return "0", OK
-	}
-	last := len(a) - 1
-	var text strings.Builder
-	text.WriteString(strconv.Itoa(a[last]))
-	for place := last - 1; place >= 0; place-- {
-		// The base ahead of a limb makes its noughts show.
-		text.WriteString(strconv.Itoa(LimbBase + a[place])[1:])
-	}
-	return text.String(), OK
+	return limbsText(a), OK
 }
 
 func ReadNat(t string) ([]int, int) {
@@ -297,4 +280,57 @@ func halved(a []int) []int {
 		a[place], carry = value/2, value%2
 	}
 	return trimmed(a)
+}
+
+func limbsText(a []int) string {
+	if len(a) == 0 {
+		return "0"
+	}
+	last := len(a) - 1
+	var text strings.Builder
+	text.WriteString(strconv.Itoa(a[last]))
+	for place := last - 1; place >= 0; place-- {
+		// The base ahead of a limb makes its noughts show.
+		text.WriteString(strconv.Itoa(LimbBase + a[place])[1:])
+	}
+	return text.String()
+}
+
+// The functions below find cells of their own.
+
+func sumLimbs(a, b []int) []int {
+	return addInto(make([]int, max(len(a), len(b))+1), a, b)
+}
+
+// lessLimbs is a less b, which is not above it.
+func lessLimbs(a, b []int) []int {
+	rest := fresh(a)
+	takeTimes(rest, b, 1)
+	return trimmed(rest)
+}
+
+func productLimbs(a, b []int) []int {
+	return mulInto(make([]int, len(a)+len(b)), a, b)
+}
+
+// dividedLimbs is the quotient and the rest of a over b, which is not 0.
+func dividedLimbs(a, b []int) ([]int, []int) {
+	quotient, rest := make([]int, len(a)), fresh(a)
+	divideRest(quotient, rest, b)
+	return trimmed(quotient), trimmed(rest)
+}
+
+func quotientLimbs(a, b []int) []int {
+	quotient, _ := dividedLimbs(a, b)
+	return quotient
+}
+
+func commonLimbs(a, b []int) []int {
+	quotient := make([]int, max(len(a), len(b)))
+	x, y := fresh(a), fresh(b)
+	for len(y) > 0 {
+		divideRest(quotient[:len(x)], x, y)
+		x, y = y, trimmed(x)
+	}
+	return x
 }

@@ -13,14 +13,20 @@ import (
 // answer holds all that a call answers, so that one check serves every call.
 type answer struct {
 	lists [][]int
+	rats  []impl.Rat
 	text  string
 	sign  int
 	code  int
 }
 
 func (a answer) zeroBut(code int) bool {
-	for _, list := range a.lists {
+	for _, list := range a.memory() {
 		if len(list) != 0 {
+			return false
+		}
+	}
+	for _, r := range a.rats {
+		if r.Neg {
 			return false
 		}
 	}
@@ -28,7 +34,16 @@ func (a answer) zeroBut(code int) bool {
 }
 
 func (a answer) String() string {
-	return fmt.Sprint(a.lists, " ", a.text, " ", a.sign, " ", a.code)
+	return fmt.Sprint(a.lists, " ", a.rats, " ", a.text, " ", a.sign, " ", a.code)
+}
+
+// memory is every list of the answer, also those within its rationals.
+func (a answer) memory() [][]int {
+	all := slices.Clone(a.lists)
+	for _, r := range a.rats {
+		all = append(all, r.Num, r.Den)
+	}
+	return all
 }
 
 func ofList(call func(a, b []int) ([]int, int)) func(a, b []int) answer {
@@ -144,23 +159,30 @@ func spoil(list []int) {
 	}
 }
 
+// spoilAll spoils each list by itself, to see whether another one changes with it, then all of them.
+func spoilAll(lists [][]int) bool {
+	shared := false
+	for i, list := range lists {
+		others := fmt.Sprint(lists[:i], lists[i+1:])
+		kept := slices.Clone(list)
+		spoil(list)
+		shared = shared || fmt.Sprint(lists[:i], lists[i+1:]) != others
+		copy(list, kept)
+	}
+	for _, list := range lists {
+		spoil(list)
+	}
+	return shared
+}
+
 // checkApart calls with a and b, then again: answers are alike, arguments stay, and all lists are new memory.
 func checkApart(t *testing.T, name string, call func(a, b []int) answer, a, b []int) {
 	t.Helper()
 	first, second := spare(a), spare(b)
 	got := call(first, second)
 	told := got.String()
-	for i, list := range got.lists {
-		others := fmt.Sprint(got.lists[:i], got.lists[i+1:])
-		kept := slices.Clone(list)
-		spoil(list)
-		if fmt.Sprint(got.lists[:i], got.lists[i+1:]) != others {
-			t.Errorf("%s(%s, %s): the lists of one answer share memory", name, brief(a), brief(b))
-		}
-		copy(list, kept)
-	}
-	for _, list := range got.lists {
-		spoil(list)
+	if spoilAll(got.memory()) {
+		t.Errorf("%s(%s, %s): the lists of one answer share memory", name, brief(a), brief(b))
 	}
 	if !untouched(first, a) || !untouched(second, b) {
 		t.Errorf("%s(%s, %s): an argument changed, or is shared with the answer", name, brief(a), brief(b))
