@@ -85,3 +85,12 @@ func isLetter(b byte) bool {
 func isDigit(b byte) bool {
 	return '0' <= b && b <= '9'
 }
+
+func anyLong[T any](lists ...[]T) bool {
+	for _, list := range lists {
+		if len(list) > MaxList {
+			return true
+		}
+	}
+	return false
+}

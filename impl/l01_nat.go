@@ -135,10 +135,8 @@ func ReadNat(t string) ([]int, int) {
 
 // natCode looks through all the lists for ErrLong ahead of ErrBad.
 func natCode(lists ...[]int) int {
-	for _, a := range lists {
-		if len(a) > MaxList {
-			return ErrLong
-		}
+	if anyLong(lists...) {
+		return ErrLong
 	}
 	for _, a := range lists {
 		if !NatOK(a) {

@@ -215,16 +215,5 @@ func TestRatAnswersDoNotHangOnEarlierCalls(t *testing.T) {
 		made, code := impl.MakeRat(i-20, i-10)
 		told[fmt.Sprint("made", i)] = fmt.Sprint(made, code, impl.RatOK(a))
 	}
-	forth, back := map[string]string{}, map[string]string{}
-	for i := range list {
-		ask(i, forth)
-	}
-	for i := len(list) - 1; i >= 0; i-- {
-		ask(i, back)
-	}
-	for key, told := range forth {
-		if back[key] != told {
-			t.Errorf("%s: %s, in another order %s", key, told, back[key])
-		}
-	}
+	checkAnyOrder(t, len(list), ask)
 }

@@ -14,6 +14,7 @@ import (
 type answer struct {
 	lists [][]int
 	rats  []impl.Rat
+	vec   []impl.Rat
 	text  string
 	sign  int
 	code  int
@@ -30,17 +31,17 @@ func (a answer) zeroBut(code int) bool {
 			return false
 		}
 	}
-	return a.text == "" && a.sign == 0 && a.code == code
+	return len(a.vec) == 0 && a.text == "" && a.sign == 0 && a.code == code
 }
 
 func (a answer) String() string {
-	return fmt.Sprint(a.lists, " ", a.rats, " ", a.text, " ", a.sign, " ", a.code)
+	return fmt.Sprint(a.lists, " ", a.rats, " ", a.vec, " ", a.text, " ", a.sign, " ", a.code)
 }
 
 // memory is every list of the answer, also those within its rationals.
 func (a answer) memory() [][]int {
 	all := slices.Clone(a.lists)
-	for _, r := range a.rats {
+	for _, r := range slices.Concat(a.rats, a.vec) {
 		all = append(all, r.Num, r.Den)
 	}
 	return all
@@ -252,30 +253,31 @@ func TestEmptyAndNilAreAlike(t *testing.T) {
 	}
 }
 
+// checkAnyOrder asks from the first to the last, then from the last to the first: what is told is the same.
+func checkAnyOrder(t *testing.T, count int, ask func(i int, told map[string]string)) {
+	t.Helper()
+	forth, back := map[string]string{}, map[string]string{}
+	for i := range count {
+		ask(i, forth)
+		ask(count-1-i, back)
+	}
+	for key, told := range forth {
+		if back[key] != told {
+			t.Errorf("%s: %s, in another order %s", key, told, back[key])
+		}
+	}
+}
+
 func TestAnswersDoNotHangOnEarlierCalls(t *testing.T) {
 	list := sampleNats()
-	ask := func(order []int) map[string]string {
-		told := map[string]string{}
-		for _, i := range order {
-			a, b := list[i], list[(i*7+3)%len(list)]
-			for name, call := range callsOfTwo() {
-				told[fmt.Sprint(name, i)] = call(a, b).String()
-			}
-			for name, call := range callsOfOne() {
-				told[fmt.Sprint(name, i)] = call(a).String()
-			}
-			told[fmt.Sprint("words", i)] = fmt.Sprint(impl.CodeWord(i), impl.CodeOf(impl.CodeWord(i)), impl.NameOK(impl.CodeWord(i)), impl.NatOK(a))
+	checkAnyOrder(t, len(list), func(i int, told map[string]string) {
+		a, b := list[i], list[(i*7+3)%len(list)]
+		for name, call := range callsOfTwo() {
+			told[fmt.Sprint(name, i)] = call(a, b).String()
 		}
-		return told
-	}
-	var forth, back []int
-	for i := range list {
-		forth, back = append(forth, i), append([]int{i}, back...)
-	}
-	first, second := ask(forth), ask(back)
-	for key, told := range first {
-		if second[key] != told {
-			t.Errorf("%s: %s, in another order %s", key, told, second[key])
+		for name, call := range callsOfOne() {
+			told[fmt.Sprint(name, i)] = call(a).String()
 		}
-	}
+		told[fmt.Sprint("words", i)] = fmt.Sprint(impl.CodeWord(i), impl.CodeOf(impl.CodeWord(i)), impl.NameOK(impl.CodeWord(i)), impl.NatOK(a))
+	})
 }
