@@ -82,8 +82,8 @@ func isLetter(b byte) bool {
 	return 'a' <= b && b <= 'z' || 'A' <= b && b <= 'Z' || b == '_'
 }
 
-func isDigit(b byte) bool {
-	return '0' <= b && b <= '9'
+func isDigit[T byte | rune](c T) bool {
+	return '0' <= c && c <= '9'
 }
 
 func anyLong[T any](lists ...[]T) bool {

@@ -12,12 +12,13 @@ import (
 
 // answer holds all that a call answers, so that one check serves every call.
 type answer struct {
-	lists [][]int
-	rats  []impl.Rat
-	vec   []impl.Rat
-	text  string
-	sign  int
-	code  int
+	lists  [][]int
+	rats   []impl.Rat
+	vec    []impl.Rat
+	tokens []impl.Token
+	text   string
+	sign   int
+	code   int
 }
 
 func (a answer) zeroBut(code int) bool {
@@ -31,11 +32,11 @@ func (a answer) zeroBut(code int) bool {
 			return false
 		}
 	}
-	return len(a.vec) == 0 && a.text == "" && a.sign == 0 && a.code == code
+	return len(a.vec) == 0 && len(a.tokens) == 0 && a.text == "" && a.sign == 0 && a.code == code
 }
 
 func (a answer) String() string {
-	return fmt.Sprint(a.lists, " ", a.rats, " ", a.vec, " ", a.text, " ", a.sign, " ", a.code)
+	return fmt.Sprint(a.lists, " ", a.rats, " ", a.vec, " ", a.tokens, " ", a.text, " ", a.sign, " ", a.code)
 }
 
 // memory is every list of the answer, also those within its rationals.
