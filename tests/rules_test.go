@@ -17,6 +17,7 @@ type answer struct {
 	vec    []impl.Rat
 	tokens []impl.Token
 	nodes  []impl.Node
+	lines  []string
 	text   string
 	sign   int
 	code   int
@@ -33,11 +34,11 @@ func (a answer) zeroBut(code int) bool {
 			return false
 		}
 	}
-	return len(a.vec) == 0 && len(a.tokens) == 0 && len(a.nodes) == 0 && a.text == "" && a.sign == 0 && a.code == code
+	return len(a.vec) == 0 && len(a.tokens) == 0 && len(a.nodes) == 0 && len(a.lines) == 0 && a.text == "" && a.sign == 0 && a.code == code
 }
 
 func (a answer) String() string {
-	return fmt.Sprint(a.lists, " ", a.rats, " ", a.vec, " ", a.tokens, " ", a.nodes, " ", a.text, " ", a.sign, " ", a.code)
+	return fmt.Sprint(a.lists, " ", a.rats, " ", a.vec, " ", a.tokens, " ", a.nodes, " ", a.lines, " ", a.text, " ", a.sign, " ", a.code)
 }
 
 // memory is every list of the answer, also those within its rationals.
