@@ -84,7 +84,7 @@ func backCalls() map[string]backCall {
 			func(p impl.Tape, x, v []impl.Rat) answer { return ofVec(impl.HvTape(p, x, v)) },
 			func(b backAt) [][]*form {
 				hangs := b.hangs()
-				return [][]*form{b.slopes(b.forms), hangs, b.slopes(hangs)}
+				return [][]*form{hangs, b.slopes(hangs)}
 			}},
 	}
 }
@@ -255,7 +255,7 @@ func TestWayBackOfStepsThatTheAnswerDoesNotHangOn(t *testing.T) {
 	} {
 		checkBackOf(t, c.p, c.x, c.v, c.grad, c.tangents, c.hv)
 	}
-	// Its codes count all the same: those of its value, and of its slope where that is asked for.
+	// Its codes count all the same: those of its value, and of its slope where that is answered.
 	for _, c := range []struct {
 		p           impl.Tape
 		x, v, words string
@@ -264,8 +264,8 @@ func TestWayBackOfStepsThatTheAnswerDoesNotHangOn(t *testing.T) {
 		{tapeOf(stepConst(0), stepTwo(impl.OpDiv, 0, 0), stepVar(0)), "5", "1", backDomain},
 		{tapeOf(stepVar(0), stepTwo(impl.OpMul, 0, 0), stepNeg(0)), "1e80", "0", backFull},
 		{tapeOf(stepVar(0), stepTwo(impl.OpMul, 0, 0), stepNeg(0)), "1e79", "0", backOK},
-		{tapeOf(stepVar(0), stepTwo(impl.OpMul, 0, 0), stepNeg(0)), "1e79", "1e90", "ok full full"},
-		{tapeOf(stepVar(0), stepTwo(impl.OpMul, 0, 0), stepConst(1)), "1e79", "1e90", "ok full full"},
+		{tapeOf(stepVar(0), stepTwo(impl.OpMul, 0, 0), stepNeg(0)), "1e79", "1e90", "ok full ok"},
+		{tapeOf(stepVar(0), stepTwo(impl.OpMul, 0, 0), stepConst(1)), "1e79", "1e90", "ok full ok"},
 	} {
 		checkBackCodes(t, c.p, c.x, c.v, c.words)
 	}
@@ -403,17 +403,25 @@ func TestWayBackOfMoreThanMaxLimbs(t *testing.T) {
 		{"((2^8)^8)^8", "0", "1", backOK},
 		{"((3^8)^8)^8", "0", "1", backFull},
 		{"x0 / 2", "1/" + top, "0", backFull},
-		// a step's slope along v
+		// a step's slope along v, which TangentTape alone answers
 		{"x0 + x1", "0 0", "1 " + below, backOK},
-		{"x0 + x1", "0 0", "1 " + top, "ok full full"},
-		{"x0 - x1", "0 0", "-1 " + top, "ok full full"},
+		{"x0 + x1", "0 0", "1 " + top, "ok full ok"},
+		{"x0 - x1", "0 0", "-1 " + top, "ok full ok"},
+		{"x0 + x0", "1", top, "ok full ok"},
 		{"x0 - x0", "0", top, backOK},
 		{"x0 * x1", "1e80 0", "0 1e79", backOK},
-		{"x0 * x1", "1e80 0", "0 1e80", "ok full full"},
-		{"0 * (x0 * x1)", "1e80 0", "0 1e80", "ok full full"},
-		{"(x0 * x1)^0", "1e80 0", "0 1e80", "ok full full"},
-		{"x0 / 2", "0", "1/" + top, "ok full full"},
+		{"x0 * x1", "1e80 0", "0 1e80", "ok full ok"},
+		{"x0 * x1", "1e76 1e76", "1e100 1e100", "ok full ok"},
+		{"(x0 * x1)^0", "1e80 0", "0 1e80", "ok full ok"},
+		{"(x0 * x1)^1", "1e80 0", "0 1e80", "ok full ok"},
+		{"-(x0 * x1)", "1e80 0", "0 1e80", "ok full ok"},
 		{"x0^2", "0", "1e159", backOK},
+		// but with which HvTape goes back, also to constants
+		{"0 * (x0 * x1)", "1e80 0", "0 1e80", "ok full full"},
+		{"x0 / 2", "0", "1/" + top, "ok full full"},
+		{"(x0 + x1)^2", "0 0", "1 " + top, "ok full full"},
+		{"(x0 + x1) * x0", "0 0", "1 " + top, "ok full full"},
+		{"x0 / (1 + x1 + x2)", "1 0 0", "0 1 " + top, "ok full full"},
 		// how the answer hangs on a step: on a variable's
 		{"x0 * x1 + x0", "0 " + below, "0 0", backOK},
 		{"x0 * x1 + x0", "0 " + top, "0 0", "full ok full"},
@@ -448,6 +456,42 @@ func TestWayBackOfMoreThanMaxLimbs(t *testing.T) {
 	}
 }
 
+// HvTape goes back with slopes of any length: where they become shorter, or cancel, it has an answer.
+func TestWayBackWithLongSlopes(t *testing.T) {
+	for _, c := range [][4]string{
+		{"x0 + x0", "1", top160(), "0"},
+		{"x0 * x1", "1e76 1e76", "1e100 1e100", "1e100 1e100"},
+		{"x0 * 10000 * x1 / 100000", "0 0", "1e158 10", "1 1e157"},
+		{"(x0 * 10000)^2 / 100000000", "0", "1e158", "2e158"},
+		{"x1 / (x0 * 10000)", "1e20 1", "1e158 0", "2e94 -1e114"},
+		{"1 / (x0 * 10000)^2", "1e20", "1e158", "6e70"},
+		{"(x0 + x1) * x2 - x2 * (x0 + x1)", "0 0 0", "1 " + top160() + " 5", "0 0 0"},
+		{"0 * (x0 + x1)^0", "0 0", "1 " + top160(), "0 0"},
+	} {
+		p := tapeOfText(t, c[0])
+		checkBackCodes(t, p, c[1], c[2], "ok full ok")
+		if got, code := impl.HvTape(p, vecOf(t, c[1]), vecOf(t, c[2])); code != impl.OK || !sameVec(got, vecOf(t, c[3])) {
+			t.Errorf("HvTape of %s at %s along %s = %s, %d; want %s", c[0], c[1], c[2], told(got), code, c[3])
+		}
+	}
+	// One that the answer does not hang on.
+	checkBackCodes(t, tapeOf(stepVar(0), stepTwo(impl.OpAdd, 0, 0), stepConst(7)), "1", top160(), "ok full ok")
+}
+
+// Slopes may grow step by step, each time by as much as a number may have.
+func TestWayBackWithEverLongerSlopes(t *testing.T) {
+	for _, op := range []int{impl.OpMul, impl.OpDiv} {
+		steps := []impl.Node{stepVar(0), stepVar(1), stepTwo(op, 0, 1)}
+		for len(steps) < impl.MaxNodes-2 {
+			steps = append(steps, stepTwo(op, len(steps)-1, 1))
+		}
+		x := "0 " + map[int]string{impl.OpMul: "1e159", impl.OpDiv: "1e-159"}[op]
+		checkBackCodes(t, tapeOf(steps...), x, "1e159 1e159", "full full full")
+		steps = append(steps, stepTwo(impl.OpSub, len(steps)-1, len(steps)-1))
+		checkBackCodes(t, tapeOf(steps...), x, "1e159 1e159", "ok full ok")
+	}
+}
+
 // What is added up at a step may be too long on the way: it counts when the step is come to.
 func TestWayBackThatCancelsAheadOfItsStep(t *testing.T) {
 	// x0 x1 x1 - x1 x0 x1: each of the two is 10^200 at x0.
@@ -455,7 +499,7 @@ func TestWayBackThatCancelsAheadOfItsStep(t *testing.T) {
 	checkBackOf(t, p, "0 1e100", "0 1e50", "0 0", "0 "+big.NewInt(0).Exp(big.NewInt(10), big.NewInt(50), nil).String()+" 0 0 0 0 0", "0 0")
 	checkBackCodes(t, p, "0 1e100", "0 1e100", backOK)
 	checkBackCodes(t, p, "0 1e100", "1e-50 1e100", backOK)
-	checkBackCodes(t, p, "0 1e100", "1 1", "ok full full")
+	checkBackCodes(t, p, "0 1e100", "1 1", "ok full ok")
 	// With a sum for the difference they do not cancel.
 	p = tapeOf(append(slices.Clone(p.Steps[:6]), stepTwo(impl.OpAdd, 3, 5))...)
 	checkBackCodes(t, p, "0 1e100", "0 0", "full ok full")
