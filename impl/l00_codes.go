@@ -1,5 +1,7 @@
 package impl
 
+import "strconv"
+
 const (
 	MaxText = 65536
 	MaxList = 4096
@@ -84,6 +86,16 @@ func isLetter(b byte) bool {
 
 func isDigit[T byte | rune](c T) bool {
 	return '0' <= c && c <= '9'
+}
+
+// readNumber takes the texts of numbers that have at most 18 digits; of each number there is one text alone.
+func readNumber(t string) (int, bool) {
+	const most = 999999999999999999
+	n, err := strconv.Atoi(t)
+	if err != nil || n < -most || n > most || strconv.Itoa(n) != t {
+		return 0, false
+	}
+	return n, true
 }
 
 func anyLong[T any](lists ...[]T) bool {
