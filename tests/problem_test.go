@@ -99,12 +99,7 @@ func dueProblem(lines []string) (impl.Problem, int) {
 			return impl.Problem{}, code
 		}
 	}
-	for _, word := range []string{"minimize", "start", "solver", "eps", "limits"} {
-		if !slices.Contains(there, word) {
-			return impl.Problem{}, impl.ErrBad
-		}
-	}
-	if slices.Contains(there, "low") != slices.Contains(there, "high") || !dueProblemRight(p) {
+	if !dueProblemRight(p) {
 		return impl.Problem{}, impl.ErrBad
 	}
 	return p, impl.OK
@@ -376,7 +371,7 @@ func eachOrder(list []string, count int, call func(list []string)) {
 }
 
 func TestLinesInEveryOrder(t *testing.T) {
-	for _, lines := range [][]string{boxLines(), freeLines()} {
+	for _, lines := range [][]string{boxLines(), freeLines(), boxLines()[:6], freeLines()[:4]} {
 		want, code := checkRead(t, lines)
 		if code != impl.OK {
 			t.Fatalf("ReadProblem(%s): code %d", briefLines(lines), code)
@@ -388,13 +383,13 @@ func TestLinesInEveryOrder(t *testing.T) {
 				t.Errorf("ReadProblem(%s) = %s, %d", briefLines(list), briefProblem(p), code)
 			}
 		})
-		if due := map[int]int{5: 120, 7: 5040}[len(lines)]; len(orders) != due {
+		if due := map[int]int{4: 24, 5: 120, 6: 720, 7: 5040}[len(lines)]; len(orders) != due {
 			t.Errorf("%d orders; want %d", len(orders), due)
 		}
 	}
 }
 
-// Of all choices of lines only two are a problem: all of them, and all but both bounds.
+// Of all choices of lines only four are a problem: all of them, and all but both bounds, each with the limits or without.
 func TestLinesThatAreMissing(t *testing.T) {
 	for _, all := range [][]string{boxLines(), with(boxLines(), "limits 0 0", "eps 0"), with(boxLines(), "minimize 0", "start 0", "low 0", "high 0")} {
 		right := 0
@@ -406,7 +401,7 @@ func TestLinesThatAreMissing(t *testing.T) {
 				}
 			}
 			code := impl.ErrBad
-			if choice == 1<<len(all)-1 || choice == 0b1110011 {
+			if needed := choice & 0b0111111; needed == 0b0111111 || needed == 0b0110011 {
 				code = impl.OK
 				right++
 			}
@@ -414,14 +409,47 @@ func TestLinesThatAreMissing(t *testing.T) {
 			slices.Reverse(lines)
 			checkReadCode(t, append([]string{"", "  "}, lines...), code)
 		}
-		if right != 2 {
+		if right != 4 {
 			t.Errorf("%d choices of lines are right", right)
 		}
 	}
-	for i := range freeLines() {
-		checkReadCode(t, slices.Delete(freeLines(), i, i+1), impl.ErrBad)
-		checkReadCode(t, with(freeLines(), freeLines()[i])[:i], impl.ErrBad)
+	for i, line := range freeLines() {
+		code := impl.ErrBad
+		if strings.HasPrefix(line, "limits ") {
+			code = impl.OK
+		}
+		checkReadCode(t, slices.Delete(freeLines(), i, i+1), code)
+		checkReadCode(t, freeLines()[:i], code)
 	}
+}
+
+// What no line tells is zero, and Iter 0 and Back 0 are right: the problem is the same as with these told.
+func TestLimitsThatNoLineTells(t *testing.T) {
+	noise := rand.New(rand.NewSource(107))
+	for i := range 300 {
+		p, lines := noisyProblem(noise, 1+i%20)
+		p.Iter, p.Back = 0, 0
+		rest := lines[:len(lines)-1]
+		whole := append(slices.Clone(rest), "limits 0 0")
+		checkProblem(t, p, whole)
+		bare := slices.Clone(rest)
+		noise.Shuffle(len(bare), func(i, j int) { bare[i], bare[j] = bare[j], bare[i] })
+		got, code := checkRead(t, slices.Insert(bare, noise.Intn(len(bare)), "", "  "))
+		if code != impl.OK || got.Iter != 0 || got.Back != 0 || !sameFields(got, p) || !impl.SameProblem(got, p) {
+			t.Errorf("ReadProblem(%s) = %s, %d; want %s", briefLines(rest), briefProblem(got), code, briefProblem(p))
+		}
+		if said, code := impl.ProblemText(got); code != impl.OK || !slices.Equal(said, whole) {
+			t.Errorf("ProblemText(%s) = %s, %d; want %s", briefProblem(got), briefLines(said), code, briefLines(whole))
+		}
+	}
+	// A line that is there must be right by its form, and what else is wrong is told as with the limits.
+	checkReadCode(t, append(freeLines()[:4], "limits"), impl.ErrForm)
+	checkReadCode(t, append(freeLines()[:4], "limits 0"), impl.ErrForm)
+	checkReadCode(t, append(freeLines()[:4], "low 0 -1"), impl.ErrBad)
+	checkReadCode(t, append(freeLines()[:4], freeLines()[0]), impl.ErrMany)
+	checkReadCode(t, with(freeLines()[:4], "start 1"), impl.ErrBad)
+	checkReadCode(t, with(freeLines()[:4], "eps -1"), impl.ErrBad)
+	checkReadCode(t, with(freeLines()[:4], "solver none"), impl.ErrSolver)
 }
 
 func TestLinesThatSayNothing(t *testing.T) {
